@@ -1,0 +1,1 @@
+"""Stepjudge: worked answers judged line by line."""
