@@ -83,6 +83,41 @@ class LanguageTest(unittest.TestCase):
                 if isinstance(node, ast.arg):
                     self.assertFalse(hasattr(builtins, node.arg), f"{path}:{node.lineno}")
 
+    def test_bound_names(self):
+        for path in FILES:
+            nodes = nodes_of(path)
+            imported = [name.name for node in nodes if isinstance(node, ast.ImportFrom) for name in node.names]
+            classes = [node.name for node in nodes if isinstance(node, ast.ClassDef)]
+            bound = [node.id for node in nodes if isinstance(node, ast.Name) and isinstance(node.ctx, ast.Store)]
+            bound.extend(node.arg for node in nodes if isinstance(node, ast.arg))
+            bound.extend(node.name for node in nodes if isinstance(node, ast.FunctionDef))
+            self.assertEqual(sorted(set(bound) & set(imported + classes)), [], path)
+
+    def test_tops(self):
+        for path in FILES:
+            bound = []
+            for node in ast.parse(path.read_text(encoding="utf-8")).body:
+                if isinstance(node, ast.Assign):
+                    ast.literal_eval(node.value)
+                    bound.append(node.targets[0].id)
+                elif isinstance(node, (ast.FunctionDef, ast.ClassDef)):
+                    bound.append(node.name)
+                elif not isinstance(node, ast.ImportFrom):
+                    self.assertIsInstance(node.value, ast.Constant, path)
+            self.assertEqual(len(set(bound)), len(bound), path)
+
+    def test_imports_go_one_way(self):
+        drawn = {}
+        for path in FILES:
+            modules = [node.module for node in nodes_of(path) if isinstance(node, ast.ImportFrom)]
+            drawn["stepjudge." + path.stem] = modules
+        # A file whose imports are all done may go; where two draw on one another, neither ever may.
+        while drawn:
+            done = [name for name, modules in drawn.items() if not set(modules) & set(drawn)]
+            self.assertNotEqual(done, [], drawn)
+            for name in done:
+                del drawn[name]
+
     def test_methods(self):
         allowed = METHODS + own_methods()
         for path in FILES:

@@ -1,5 +1,6 @@
 import unittest
 
+from own_sums import lists_in
 from stepjudge.reader import read
 
 WHOLE_TEXT = "\n".join([
@@ -21,14 +22,6 @@ WHOLE_WORK = (
     ],
     2,
 )
-
-
-def lists_in(value):
-    found = [value] if isinstance(value, list) else []
-    if isinstance(value, (list, tuple)):
-        for part in value:
-            found.extend(lists_in(part))
-    return found
 
 
 def line_of(row):
