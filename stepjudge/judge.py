@@ -3,6 +3,10 @@
 from stepjudge.follows import follows
 
 
+def given_lines(work):
+    return [row[1] for row in work[1] if row[0] == "given"]
+
+
 def named_lines(work, place):
     rows = work[1]
     return [rows[named][1] for named in rows[place][2]]

@@ -50,6 +50,72 @@ def shows(given, others, paper):
     return not any(parts) and (bound < 0 or (bound == 0 and strict))
 
 
+def halved(others):
+    """The lines as (parts, bound, strict), each of kind "=" as two."""
+    rows = []
+    for kind, parts, bound in others:
+        row = ([Fraction(*part) for part in parts], Fraction(*bound), kind == "<")
+        rows.append(row)
+        if kind == "=":
+            rows.append(([-part for part in row[0]], -row[1], False))
+    return rows
+
+
+def without(rows, place):
+    """What the rows say of all but one place: every pair that bounds it from both sides, put together."""
+    tightest = {}
+    uppers = [row for row in rows if row[0][place] > 0]
+    lowers = [row for row in rows if row[0][place] < 0]
+    left = [row for row in rows if row[0][place] == 0]
+    for parts, bound, strict in uppers:
+        for more, other, stricter in lowers:
+            much, many = -more[place], parts[place]
+            left.append(([much * a + many * b for a, b in zip(parts, more)], much * bound + many * other,
+                         strict or stricter))
+    for parts, bound, strict in left:
+        size = max([abs(part) for part in parts]) or 1
+        key = tuple(part / size for part in parts)
+        tightest[key] = min(tightest.get(key, (bound / size, not strict)), (bound / size, not strict))
+    return [(list(key), bound, not weak) for key, (bound, weak) in tightest.items()]
+
+
+def own_range(parts, others):
+    """What a sum may be, as (least, greatest), each None or (number, whether it may be); None where nothing may.
+
+    By plain elimination without weights, so for few others alone.
+    """
+    many = len(parts)
+    numbers = [Fraction(*part) for part in parts]
+    rows = [(row + [Fraction(0)], bound, strict) for row, bound, strict in halved(others)]
+    rows.append((numbers + [Fraction(-1)], Fraction(0), False))
+    rows.append(([-number for number in numbers] + [Fraction(1)], Fraction(0), False))
+    for place in range(many):
+        rows = without(rows, place)
+    if any(row[many] == 0 and (bound < 0 or (bound == 0 and strict)) for row, bound, strict in rows):
+        return None
+    greatest = min([(bound / row[many], not strict) for row, bound, strict in rows if row[many] > 0], default=None)
+    # Turned about, so that the stricter of two of like number comes first here, too.
+    least = min([(bound / -row[many], not strict) for row, bound, strict in rows if row[many] < 0], default=None)
+    least = None if least is None else (-least[0], least[1])
+    if least is not None and greatest is not None:
+        if least[0] > greatest[0] or (least[0] == greatest[0] and not (least[1] and greatest[1])):
+            return None
+    return (least, greatest)
+
+
+def own_follows(given, others):
+    """Whether the line follows, by the range of its sum."""
+    ends = own_range(given[1], others)
+    if ends is None:
+        return True
+    bound = Fraction(*given[2])
+    if given[0] == "=":
+        return ends == ((bound, True), (bound, True))
+    if ends[1] is None:
+        return False
+    return ends[1][0] < bound or (ends[1][0] == bound and (given[0] == "<=" or not ends[1][1]))
+
+
 def is_fraction(value):
     if type(value) is not tuple or [type(part) for part in value] != [int, int] or value[1] < 1:
         return False
@@ -115,3 +181,22 @@ def draw_question(drawn, great=False, most=12):
     if drawn.random() < 0.7:
         return (draw_sum(drawn, many, others), others)
     return (draw_line(drawn, many, KINDS, great), others)
+
+
+def draw_rows(drawn):
+    """The rows of a work as texts."""
+    names = drawn.sample(["x", "y", "total"], drawn.randint(0, 3))
+
+    def draw_sums():
+        terms = [f"{drawn.choice(['', '-', '-2*', '2*', '1/3*', '-3/2*'])}{name}" for name in names]
+        left = "+".join(terms[:drawn.randint(0, 3)]).replace("+-", "-") or "0"
+        return f"{left} {drawn.choice(['=', '=', '=', '<=', '<', '>=', '>'])} {drawn.randint(-3, 6)}"
+
+    rows = ["given " + draw_sums() for turn in range(drawn.randint(1, 5))]
+    for turn in range(drawn.randint(0, 5)):
+        numbers = drawn.sample(range(1, len(rows) + 1), drawn.randint(1, min(6, len(rows))))
+        rows.append(f"so {draw_sums()} from {' '.join(str(number) for number in numbers)}")
+    asked = [name for name in names if any(name in row for row in rows)]
+    if asked and drawn.random() < 0.7:
+        rows.append("ask " + drawn.choice(asked))
+    return rows

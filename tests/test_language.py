@@ -17,6 +17,8 @@ isupper items join keys ljust lower lstrip partition pop remove replace reverse 
 rstrip setdefault split splitlines startswith strip update upper values zfill bit_length""".split()
 FORBIDDEN_WORDS = """type typing typing_extensions enum Enum IntEnum StrEnum Flag IntFlag Generic Protocol ABC
 ABCMeta namedtuple NamedTuple TypedDict TYPE_CHECKING abstractmethod""".split()
+KEYWORDS = {"sorted": ("key", "reverse"), "min": ("key", "default"), "max": ("key", "default"), "sum": ("start",),
+            "enumerate": ("start",), "zip": ("strict",)}
 FORBIDDEN_NODES = (
     ast.Import, ast.With, ast.Match, ast.Delete, ast.Global, ast.Nonlocal, ast.Assert, ast.Yield, ast.YieldFrom,
     ast.AsyncFunctionDef, ast.AsyncFor, ast.AsyncWith, ast.Await, ast.SetComp, ast.DictComp, ast.GeneratorExp,
@@ -70,6 +72,49 @@ class LanguageTest(unittest.TestCase):
                     self.assertEqual(len(node.targets), 1, where)
                 if isinstance(node, (ast.For, ast.While)):
                     self.assertEqual(node.orelse, [], where)
+
+    def test_expressions(self):
+        for path in FILES:
+            for node in nodes_of(path):
+                where = f"{path}:{getattr(node, 'lineno', 0)}"
+                if isinstance(node, ast.ListComp):
+                    self.assertEqual(len(node.generators), 1, where)
+                    self.assertLessEqual(len(node.generators[0].ifs), 1, where)
+                if isinstance(node, ast.FormattedValue):
+                    self.assertIsInstance(node.value, ast.Name, where)
+                    self.assertIs(node.format_spec, None, where)
+                if isinstance(node, ast.Constant) and isinstance(node.value, str):
+                    self.assertNotIn("%", node.value, where)
+                if isinstance(node, ast.Compare) and any(isinstance(sign, (ast.Is, ast.IsNot)) for sign in node.ops):
+                    self.assertIsInstance(node.comparators[0], ast.Constant, where)
+                    self.assertIn(node.comparators[0].value, (None, True, False), where)
+                if isinstance(node, ast.BinOp) and isinstance(node.op, ast.Pow):
+                    self.assertIn(node.right.value, range(65), where)
+                if isinstance(node, ast.Assign):
+                    self.assertNotIsInstance(node.targets[0], (ast.Tuple, ast.List), where)
+
+    def test_keywords(self):
+        for path in FILES:
+            for node in nodes_of(path):
+                if isinstance(node, ast.Call) and node.keywords:
+                    where = f"{path}:{node.lineno}"
+                    self.assertIsInstance(node.func, ast.Name, where)
+                    words = [keyword.arg for keyword in node.keywords]
+                    self.assertLessEqual(set(words), set(KEYWORDS.get(node.func.id, ())), where)
+
+    def test_classes(self):
+        methods = own_methods()
+        for path in FILES:
+            for node in nodes_of(path):
+                where = f"{path}:{getattr(node, 'lineno', 0)}"
+                if isinstance(node, ast.ClassDef):
+                    self.assertLessEqual(len(node.bases), 1, where)
+                    self.assertEqual(node.decorator_list, [], where)
+                    for part in node.body:
+                        self.assertIsInstance(part, (ast.FunctionDef, ast.Pass), where)
+                if isinstance(node, ast.Attribute) and isinstance(node.ctx, ast.Store):
+                    self.assertNotIn(node.attr, methods + METHODS, where)
+                    self.assertFalse(any(hasattr(kind, node.attr) for kind in (str, int, list, dict, set, bytes)), where)
 
     def test_names(self):
         for path in FILES:
